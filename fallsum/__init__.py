@@ -1,0 +1,1 @@
+"""Fallsum: loops that end by falling sums, or go on for ever."""
