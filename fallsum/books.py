@@ -29,9 +29,9 @@ def are_gains(thing, purses):
     return is_tuple_of(thing, purses) and all([is_between(part, -MOST_GAIN, MOST_GAIN) for part in thing])
 
 
-def are_numbers(thing, purses):
-    """Whether thing is the numbers of a stand in a book of so many purses."""
-    return is_tuple_of(thing, purses) and all([is_whole(part) and part >= 0 for part in thing])
+def are_numbers(thing, many):
+    """Whether thing is a tuple of so many whole numbers from 0 on."""
+    return is_tuple_of(thing, many) and all([is_whole(part) and part >= 0 for part in thing])
 
 
 def is_way(thing, rooms, purses):
