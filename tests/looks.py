@@ -77,3 +77,51 @@ def are_such_layers(book, layers):
             return False
         due.extend(rings_by_walks(book, [k for k, by in zip(ring, falls) if by == 0]))
     return left == []
+
+
+def met_from(book, room):
+    """The ways that a walk from the room has, whatever the purses, point 16."""
+    met, rooms = set(), [room]
+    while rooms:
+        at = rooms.pop()
+        for k, way in enumerate(book[2]):
+            if way[0] == at and k not in met:
+                met.add(k)
+                rooms.append(way[1])
+    return sorted(met)
+
+
+def gains_of_counts(book, counts):
+    """Each way's gains as often as counted, put together, a list."""
+    return [sum(count * way[2][p] for count, way in zip(counts, book[2])) for p in range(book[1])]
+
+
+def stands_behind(book, stand):
+    """The ways that can be done at a stand and the stands behind them, point 5, a list of tuples."""
+    told = []
+    for k, (a, b, gains) in enumerate(book[2]):
+        numbers = tuple(x + y for x, y in zip(stand[1], gains))
+        if a == stand[0] and min(numbers) >= 0:
+            told.append((k, (b, numbers)))
+    return told
+
+
+def most_along(book, stand, counted, limit):
+    """How many of the counted ways, at most, a walk from the stand of a book that ends has.
+
+    None where more stands are met than the limit.
+    """
+    onward, most, pending = {}, {}, [stand]
+    while pending:
+        now = pending[-1]
+        if now not in onward:
+            onward[now] = stands_behind(book, now)
+            if len(onward) > limit:
+                return None
+        later = [then for _, then in onward[now] if then not in most]
+        if later:
+            pending.extend(later)
+            continue
+        pending.pop()
+        most[now] = max([int(k in counted) + most[then] for k, then in onward[now]], default=0)
+    return most[stand]

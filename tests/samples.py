@@ -2,6 +2,8 @@
 
 import random
 
+from tests.looks import rings_by_walks
+
 GREAT = 10 ** 100 - 1
 
 # Two rooms, two purses: 0 and 1 go round, 2 stays in room 0, 3 in room 1, 4 is like 3.
@@ -76,9 +78,14 @@ def made_books(many, seed):
 def made_book(source):
     rooms = source.randint(1, 4)
     purses = source.randint(1, 3)
+    return book_by_chance(source, rooms, purses, source.randint(1, 9), lambda: source.randint(-3, 3))
+
+
+def book_by_chance(source, rooms, purses, many, gain):
+    """A book of so many ways between any rooms, each gain drawn by a function."""
     ways = []
-    for _ in range(source.randint(1, 9)):
-        gains = tuple(source.randint(-3, 3) for _ in range(purses))
+    for _ in range(many):
+        gains = tuple(gain() for _ in range(purses))
         ways.append((source.randrange(rooms), source.randrange(rooms), gains))
     return (rooms, purses, tuple(ways))
 
@@ -103,11 +110,7 @@ def wide_books(many, seed):
 
 def wide_book(source, least, most):
     """Twelve rooms, six purses, sixty ways, gains within these."""
-    ways = []
-    for _ in range(60):
-        gains = tuple(source.randint(least, most) for _ in range(6))
-        ways.append((source.randrange(12), source.randrange(12), gains))
-    return (12, 6, tuple(ways))
+    return book_by_chance(source, 12, 6, 60, lambda: source.randint(least, most))
 
 
 def made_told(source, book, room, within):
@@ -247,10 +250,15 @@ def sparse_books(many, seed):
     source = random.Random(seed)
     books = []
     for _ in range(many):
-        rooms, purses = source.randint(2, 5), source.randint(2, 4)
-        ways = []
-        for _ in range(source.randint(4, 12)):
-            gains = tuple(source.choice((-1, -1, 0, 0, 0, 1)) for _ in range(purses))
-            ways.append((source.randrange(rooms), source.randrange(rooms), gains))
-        books.append((rooms, purses, tuple(ways)))
+        rooms, purses, many = source.randint(2, 5), source.randint(2, 4), source.randint(4, 12)
+        books.append(book_by_chance(source, rooms, purses, many, lambda: source.choice((-1, -1, 0, 0, 0, 1))))
     return books
+
+
+def some_rings(source, book):
+    """Rings of the book, and rings of some of its ways."""
+    every = range(len(book[2]))
+    rings = rings_by_walks(book, every)
+    for _ in range(3):
+        rings += rings_by_walks(book, [k for k in every if source.random() < 0.7])
+    return rings

@@ -7,9 +7,10 @@ import unittest
 
 from fallsum.either import greatest, sum_or_round
 from fallsum.errors import NoRing, NoWay
-from fallsum.rings import rings_of
 from tests.looks import fall_by, is_such_round, is_such_sum, rings_by_walks
-from tests.samples import GREAT, PAIR, SWAP, TWO, VALLEY, WIDE, made_books, sparse_books, tight_books, wide_books
+from tests.samples import (
+    GREAT, PAIR, SWAP, TWO, VALLEY, WIDE, made_books, some_rings, sparse_books, tight_books, wide_books,
+)
 
 # Book, ways of one ring, those of them that fall by some sum, worked out by hand.
 BY_HAND = (
@@ -54,15 +55,6 @@ NO_RINGS = (
     (TWO, [0, 1, 2, 3, 4]), (TWO, [0]), (TWO, [1, 3]), (PAIR, [0]), (PAIR, [2, 3]), (PAIR, [0, 2, 3, 4]),
     ((1, 1, ()), []), (WIDE, list(range(11))), (WIDE, [k for k in range(60) if k % 12 != 7]),
 )
-
-
-def some_rings(source, book):
-    """Rings of the book, and rings of some of its ways."""
-    every = list(range(len(book[2])))
-    rings = rings_of(book, every)
-    for _ in range(3):
-        rings += rings_of(book, [k for k in every if source.random() < 0.7])
-    return rings
 
 
 class LookedOver(unittest.TestCase):
