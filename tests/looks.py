@@ -125,3 +125,38 @@ def most_along(book, stand, counted, limit):
         pending.pop()
         most[now] = max([int(k in counted) + most[then] for k, then in onward[now]], default=0)
     return most[stand]
+
+
+def grown_tree(book, stand, most):
+    """The knots of a stand's tree, point 18: tuples (walk, stands, place), the place of the last stand ahead at which
+    the branch ends, or None; None where there are more knots than most.
+    """
+    knots, at = [([], [stand])], 0
+    told = []
+    while at < len(knots):
+        if len(knots) > most:
+            return None
+        walk, stands = knots[at]
+        at += 1
+        room, numbers = stands[-1]
+        ahead = [
+            place for place, (other, before) in enumerate(stands[:-1])
+            if other == room and all(x >= y for x, y in zip(numbers, before))
+        ]
+        told.append((walk, stands, ahead[-1] if ahead else None))
+        if not ahead:
+            knots += [(walk + [k], stands + [then]) for k, then in stands_behind(book, stands[-1])]
+    return told
+
+
+def told_of_tree(book, stand, limit):
+    """What is told of a stand by its tree; None where it has more knots than the limit."""
+    knots = grown_tree(book, stand, limit)
+    if knots is None:
+        return None
+    again = [(len(walk), walk, place) for walk, _, place in knots if place is not None]
+    if again:
+        _, walk, place = min(again)
+        return ("again", walk[:place], walk[place:])
+    _, walk = min((-len(walk), walk) for walk, _, _ in knots)
+    return ("ends", walk or None)

@@ -262,3 +262,18 @@ def some_rings(source, book):
     for _ in range(3):
         rings += rings_by_walks(book, [k for k in every if source.random() < 0.7])
     return rings
+
+
+def made_word(source, purses, puts, deepest):
+    """A word of so many puts, at most so many within one another."""
+    sort = source.choice(("row", "row", "either", "either", "again")) if deepest > 2 else "row"
+    if sort == "again":
+        return ("again", made_word(source, purses, puts, deepest - 1))
+    if puts == 1 and (deepest == 1 or source.random() < 0.7):
+        return ("put", tuple(source.choice((source.randint(-3, 3), source.randint(-99, 99))) for _ in range(purses)))
+    parts = []
+    while puts > 0:
+        many = source.randint(1, puts) if deepest > 2 else 1
+        parts.append(made_word(source, purses, many, deepest - 1))
+        puts -= many
+    return (sort, tuple(parts))
