@@ -43,6 +43,8 @@ BARRED_NODES = (
     ast.GeneratorExp, ast.NamedExpr, ast.Div, ast.MatMult, ast.Yield, ast.YieldFrom, ast.Await, ast.AsyncFor,
 )
 
+ON_THE_SPOT = ("zip", "enumerate", "range", "reversed", "items", "keys", "values")
+
 AT_MODULE_LEVEL = (ast.ImportFrom, ast.FunctionDef, ast.ClassDef, ast.Assign)
 
 
@@ -213,3 +215,49 @@ class Form(unittest.TestCase):
         for where, node in self.nodes():
             if isinstance(node, ast.Call) and isinstance(node.func, ast.Attribute):
                 self.assertIn(node.func.attr, METHODS | DUNDERS | own, where)
+
+    def test_no_name_is_a_method_and_an_attribute(self):
+        own, assigned = set(), set()
+        for where, node in self.nodes():
+            if isinstance(node, ast.ClassDef):
+                names = [part.name for part in node.body if isinstance(part, ast.FunctionDef)]
+                self.assertEqual(len(names), len(set(names)), where)
+                own |= set(names)
+            if isinstance(node, ast.Attribute) and isinstance(node.ctx, ast.Store):
+                assigned.add(node.attr)
+        self.assertEqual(own & assigned, set())
+        for where, node in self.nodes():
+            if isinstance(node, ast.Attribute):
+                self.assertIn(node.attr, METHODS | DUNDERS | own | assigned, where)
+
+    def test_iterated_at_once(self):
+        at_once = set()
+        for where, node in self.nodes():
+            if isinstance(node, (ast.For, ast.comprehension)):
+                at_once.add(node.iter)
+            if isinstance(node, ast.Call) and isinstance(node.func, ast.Name) and node.args:
+                if node.func.id in ("list", "tuple", "dict", "sorted", "sum", "any", "all", "enumerate", "zip"):
+                    at_once.add(node.args[0])
+        for where, node in self.nodes():
+            if isinstance(node, ast.Call) and self.called(node) in ON_THE_SPOT:
+                self.assertIn(node, at_once, where)
+
+    def called(self, node):
+        return node.func.id if isinstance(node.func, ast.Name) else getattr(node.func, "attr", None)
+
+    def test_sets_stand_in_sorted_or_len_or_behind_in(self):
+        placed = set()
+        for where, node in self.nodes():
+            if isinstance(node, ast.Call) and self.called(node) in ("sorted", "len"):
+                placed.add(node.args[0])
+            if isinstance(node, ast.Compare):
+                placed.update(node.comparators)
+        for where, node in self.nodes():
+            if isinstance(node, (ast.Set, ast.SetComp)) or (isinstance(node, ast.Call) and self.called(node) == "set"):
+                self.assertIn(node, placed, where)
+
+    def test_powers_of_a_written_number_only(self):
+        for where, node in self.nodes():
+            if isinstance(node, ast.BinOp) and isinstance(node.op, ast.Pow):
+                self.assertIsInstance(node.right, ast.Constant, where)
+                self.assertLessEqual(node.right.value, 64, where)
